@@ -1,0 +1,1 @@
+"""Functions on sets: setfunctions.tools.answers(calls) answers a list of calls."""
