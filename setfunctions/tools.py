@@ -8,10 +8,17 @@ SET_VALUE = 2
 VALS = 3
 KIND = 4
 FALLS = 5
+LEAST = 6
+LESS = 7
+ONTO = 8
+BEYOND = 9
+REST = 10
+RISEN = 11
+SWAP = 12
 
 # Call by call: how many whole numbers stand behind its number, and whether a row stands behind these.
-WHOLE_NUMBERS = (0, 1, 2, 0, 1, 0, 0)
-HAS_ROW = (True, True, False, False, False, False, False)
+WHOLE_NUMBERS = (0, 1, 2, 0, 1, 0, 0, 0, 1, 1, 0, 0, 0, 0)
+HAS_ROW = (True, True, False, False, False, False, False, True, False, False, False, False, False, False)
 
 MOST_THINGS = 5
 MOST_HANDED = 20000
@@ -152,6 +159,72 @@ def least(pair):
     return [lowest, len(least_sets), in_each, in_some]
 
 
+def price_of(prices, chosen):
+    price = 0
+    for things_below, price_of_one in enumerate(prices):
+        if chosen & SETS_OF[things_below] != 0:
+            price = price + price_of_one
+    return price
+
+
+def less(pair, handed):
+    # The count comes first: at least one number is there then, so that there is a highest.
+    if len(handed) != pair.things or max(handed) > MOST_HANDED:
+        return [REFUSED]
+    prices = [whole_number(number) for number in handed]
+    pair.first = [pair.first[chosen] - price_of(prices, chosen) for chosen in range(SETS_OF[pair.things])]
+    return pair.told()
+
+
+def onto(pair, kept):
+    if kept >= SETS_OF[pair.things]:
+        return [REFUSED]
+    pair.first = [pair.first[chosen & kept] for chosen in range(SETS_OF[pair.things])]
+    return pair.told()
+
+
+def beyond(pair, joined):
+    if joined >= SETS_OF[pair.things]:
+        return [REFUSED]
+    already = pair.first[joined]
+    pair.first = [pair.first[chosen | joined] - already for chosen in range(SETS_OF[pair.things])]
+    return pair.told()
+
+
+def rest(pair):
+    everything = SETS_OF[pair.things] - 1
+    whole = pair.first[everything]
+    pair.first = [whole - pair.first[everything ^ chosen] for chosen in range(SETS_OF[pair.things])]
+    return pair.told()
+
+
+def least_above(function, chosen):
+    # A set that has all of this one is no lower a number than it.
+    return min([function[wider] for wider in range(chosen, len(function)) if wider & chosen == chosen])
+
+
+def risen(pair):
+    pair.first = [least_above(pair.first, chosen) for chosen in range(SETS_OF[pair.things])]
+    return pair.told()
+
+
+def least_parting(pair, chosen):
+    # A part may be empty or the whole set; it is no higher a number than the set.
+    return min([pair.first[part] + pair.second[chosen ^ part] for part in range(chosen + 1) if part & chosen == part])
+
+
+def parted(pair):
+    pair.first = [least_parting(pair, chosen) for chosen in range(SETS_OF[pair.things])]
+    return pair.told()
+
+
+def swap(pair):
+    former = pair.first
+    pair.first = pair.second
+    pair.second = former
+    return pair.told()
+
+
 def answer(pair, number, wholes, row):
     if number == TELL:
         return tell(pair, row)
@@ -165,7 +238,21 @@ def answer(pair, number, wholes, row):
         return kind(pair, wholes[0])
     if number == FALLS:
         return falls(pair)
-    return least(pair)
+    if number == LEAST:
+        return least(pair)
+    if number == LESS:
+        return less(pair, row)
+    if number == ONTO:
+        return onto(pair, wholes[0])
+    if number == BEYOND:
+        return beyond(pair, wholes[0])
+    if number == REST:
+        return rest(pair)
+    if number == RISEN:
+        return risen(pair)
+    if number == SWAP:
+        return swap(pair)
+    return parted(pair)
 
 
 def answers(calls):

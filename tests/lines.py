@@ -1,10 +1,14 @@
-"""Calls as they lie in a list of calls, and answers parted call by call."""
+"""Calls as they lie in a list of calls, and answers taken apart call by call."""
 
 from setfunctions.tools import answers
 
 VALS = [3]
 FALLS = [5]
 LEAST = [6]
+REST = [10]
+RISEN = [11]
+SWAP = [12]
+PARTED = [13]
 REFUSED = [-1]
 TOP = 4294967295
 
@@ -37,7 +41,23 @@ def kind(k):
     return [4, k]
 
 
-def parted(given):
+def less_raw(*row):
+    return [7, len(row), *row]
+
+
+def less(*numbers):
+    return less_raw(*[handed(number) for number in numbers])
+
+
+def onto(t):
+    return [8, t]
+
+
+def beyond(t):
+    return [9, t]
+
+
+def call_by_call(given):
     found = []
     place = 0
     while place < len(given):
@@ -50,4 +70,24 @@ def parted(given):
 
 def ask(*calls):
     """The answers of these calls, in one list, each a list of numbers."""
-    return parted(answers([number for call in calls for number in call]))
+    return call_by_call(answers([number for call in calls for number in call]))
+
+
+def both(*calls):
+    """The first and the second function, each told, as they are behind these calls."""
+    found = ask(*calls, VALS, SWAP)
+    return found[-2], found[-1]
+
+
+def told_second(n, first, second):
+    """Calls behind which the functions of n things are these two."""
+    return [tell(*[0] * 2 ** n), tell(*second), SWAP, tell(*first)]
+
+
+def some_numbers(count, seed):
+    """As many whole numbers from -9 to 9, without an order to be seen, the same each time."""
+    found = []
+    for place in range(count):
+        seed = (seed * 1103515245 + 12345) % 2147483648
+        found.append(seed // 65536 % 19 - 9)
+    return found
