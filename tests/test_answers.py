@@ -28,7 +28,8 @@ class Answers(unittest.TestCase):
 
     def test_any_call_first(self):
         for call, want in ((tell(1, 2), [1]), (cover(1), [1, 0, 0]), (set_value(0, 1), [0]), (VALS, [1, 0, 0]),
-                           (kind(0), [1]), (FALLS, [1]), (LEAST, [0, 2, 0, 1]), (less(3), [1, 0, -3]), (onto(1), [1, 0, 0]),
+                           (kind(0), [1]), (FALLS, [1]), (LEAST, [0, 2, 0, 1]), (less(3), [1, 0, -3]),
+                           (onto(1), [1, 0, 0]),
                            (beyond(1), [1, 0, 0]), (REST, [1, 0, 0]), (RISEN, [1, 0, 0]), (SWAP, [1, 0, 0]),
                            (PARTED, [1, 0, 0]), (less(), [-1]), (onto(2), [-1]), (beyond(2), [-1])):
             self.assertEqual(answers(list(call)), [len(want), *want])

@@ -85,7 +85,8 @@ class Less(unittest.TestCase):
         self.assertEqual(both(*pair, less(1, 2)), ([2, 1, -3, 1, -7], [2, 5, 6, -7, 8]))
 
     def test_n_is_that_of_the_latest(self):
-        self.assertEqual(ask(tell(*[0] * 8), less(1, 1, 1), tell(0, 0), less(1, 1, 1), less(1))[3:], [REFUSED, [1, 0, -1]])
+        self.assertEqual(ask(tell(*[0] * 8), less(1, 1, 1), tell(0, 0), less(1, 1, 1), less(1))[3:],
+                         [REFUSED, [1, 0, -1]])
 
 
 if __name__ == "__main__":

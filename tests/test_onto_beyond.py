@@ -90,7 +90,8 @@ class OntoAndBeyondRefused(unittest.TestCase):
         self.assertEqual(ask(onto(2), beyond(2), VALS), [REFUSED, REFUSED, [1, 0, 0]])
 
     def test_n_is_that_of_the_latest(self):
-        self.assertEqual(ask(tell(*[1] * 8), tell(3, 4), onto(2), beyond(7), onto(1))[2:], [REFUSED, REFUSED, [1, 3, 4]])
+        self.assertEqual(ask(tell(*[1] * 8), tell(3, 4), onto(2), beyond(7), onto(1))[2:],
+                         [REFUSED, REFUSED, [1, 3, 4]])
 
     def test_all_is_as_it_was(self):
         pair = told_second(2, [1, -2, 3, -4], [5, 6, -7, 8])
